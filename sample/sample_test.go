@@ -49,7 +49,7 @@ func clamped(levels ...api.Level) api.Image {
 	return api.Image{Format: api.L8, Levels: levels, WrapS: api.Clamp, WrapT: api.Clamp, Min: api.Nearest, Mag: api.Nearest}
 }
 
-// told by bytes: the colour of one grey byte.
+// grey answers the colour of a byte of L8.
 func grey(b byte) api.Vec {
 	c, _ := pixel.Unpack(api.L8, []byte{b})
 	return c
@@ -85,7 +85,7 @@ func TestExamples(t *testing.T) {
 	}
 }
 
-// calls answers each call that takes an image and answers a colour, of level 0 where it takes a level.
+// calls answers each call that takes a level and answers a colour, at 0 and far off.
 func calls() map[string]func(x api.Image, level int) (api.Vec, api.Errno) {
 	return map[string]func(api.Image, int) (api.Vec, api.Errno){
 		"Texel": func(x api.Image, level int) (api.Vec, api.Errno) { return sample.Texel(x, level, 0, 0) },
@@ -201,14 +201,14 @@ func TestChangesNothing(t *testing.T) {
 		}
 		return b
 	}
-	make7 := func() []api.Level {
+	levels := func() []api.Level {
 		list := make([]api.Level, 0, 9)
 		list = append(list, api.Level{W: 2, H: 2, Bytes: roomy(4)}, api.Level{W: 1, H: 1, Bytes: roomy(1)}, api.Level{}, api.Level{W: 1, H: 1, Bytes: roomy(1)})
 		copy(list[4:9], []api.Level{{W: 7}, {H: 7}, {W: 8}, {H: 8}, {Bytes: roomy(2)}})
 		return list
 	}
 	for _, mode := range []int{api.Nearest, api.Linear, api.NearestMip, api.LinearMip, 9} {
-		x := api.Image{Format: api.L8, Levels: make7(), WrapS: api.Mirror, WrapT: api.Repeat, Min: mode, Mag: api.Linear}
+		x := api.Image{Format: api.L8, Levels: levels(), WrapS: api.Mirror, WrapT: api.Repeat, Min: mode, Mag: api.Linear}
 		for _, ask := range calls() {
 			for level := -1; level < 9; level++ {
 				ask(x, level)
@@ -217,7 +217,7 @@ func TestChangesNothing(t *testing.T) {
 		for _, lod := range []api.Fix{-1, 0, 1, api.One, 5 * api.One} {
 			sample.At(x, 40000, 20000, lod)
 		}
-		got, want := x.Levels[:9], make7()[:9]
+		got, want := x.Levels[:9], levels()[:9]
 		for i, l := range got {
 			m := want[i]
 			if l.W != m.W || l.H != m.H || string(l.Bytes[:cap(l.Bytes)]) != string(m.Bytes[:cap(m.Bytes)]) {
