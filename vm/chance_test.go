@@ -1,0 +1,45 @@
+package vm_test
+
+import "paintbox/api"
+
+// chance tells numbers that look like chance, and are always the same.
+type chance uint64
+
+func (c *chance) below(n int) int {
+	*c = *c*6364136223846793005 + 1442695040888963407
+	return int(uint64(*c)>>33) % n
+}
+
+// yes tells true once out of n times.
+func (c *chance) yes(n int) bool { return c.below(n) == 0 }
+
+// of answers one of these.
+func (c *chance) of(l ...string) string { return l[c.below(len(l))] }
+
+// edges are raws at which operations turn.
+func edges() []api.Fix {
+	return []api.Fix{api.Least, api.Least + 1, -1 << 30, -3 * one, -one - 1, -one, -one + 1, -32768, -7, -3, -2, -1, 0, 1, 2, 3, 5, 7, 32767, 32768, one - 1, one, one + 1, 3 * one, 46341, 1 << 30, api.Most - 1, api.Most}
+}
+
+// raw answers a raw: an edge, one of a few bits, or any.
+func (c *chance) raw() api.Fix {
+	switch c.below(3) {
+	case 0:
+		return edges()[c.below(len(edges()))]
+	case 1:
+		return api.Fix(c.below(1<<20) - 1<<19)
+	}
+	return api.Fix(int32(c.below(1<<31)<<1 | c.below(2)))
+}
+
+// vector answers a vector of four such raws.
+func (c *chance) vector() api.Vec { return api.Vec{c.raw(), c.raw(), c.raw(), c.raw()} }
+
+// vectors answers n such vectors.
+func (c *chance) vectors(n int) []api.Vec {
+	l := make([]api.Vec, n)
+	for i := range l {
+		l[i] = c.vector()
+	}
+	return l
+}
